@@ -1,0 +1,1 @@
+"""A store of sealed records that mends itself."""

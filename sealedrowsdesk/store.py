@@ -1,0 +1,43 @@
+"""The calls of the program, each by itself; each answers a list of whole numbers."""
+
+from sealedrowsdesk.cipher import decipher, encipher, expand_key, turn_keys
+
+KEY_LENGTHS = (16, 24, 32)
+
+
+def answer(number, rows):
+    """A call's answer: its number as a row of its own, then the rows of bytes, each behind its length."""
+    numbers = [1, number]
+    for row in rows:
+        numbers.append(len(row))
+        numbers.extend(row)
+    return numbers
+
+
+def keys(length, key):
+    """How many rounds, the round keys and those for the way back; -2 if the length is none of a key's."""
+    if length not in KEY_LENGTHS:
+        return answer(-2, [])
+    round_keys = expand_key(key)
+    # There is one round key more than there are rounds.
+    rounds = len(round_keys) // 16 - 1
+    return answer(rounds, [round_keys, turn_keys(round_keys)])
+
+
+def run_blocks(back, key, data):
+    """The blocks of the data enciphered, or deciphered where back isn't 0."""
+    round_keys = expand_key(key)
+    if back != 0:
+        round_keys = turn_keys(round_keys)
+    done = []
+    for at in range(0, len(data), 16):
+        block = data[at:at + 16]
+        done.extend(encipher(block, round_keys) if back == 0 else decipher(block, round_keys))
+    return done
+
+
+def blocks(length, back, key, data):
+    """How many blocks, and they enciphered (back not 0: deciphered); -2 if the length is none of a key's."""
+    if length not in KEY_LENGTHS:
+        return answer(-2, [])
+    return answer(len(data) // 16, [run_blocks(back, key, data)])

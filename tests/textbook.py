@@ -1,0 +1,83 @@
+"""AES written straight from the definitions of FIPS 197, slowly and without the program, to compare with."""
+
+
+def times(a, b):
+    product = 0
+    for bit in range(8):
+        if b >> bit & 1:
+            product ^= a << bit
+    for bit in range(14, 7, -1):
+        if product >> bit & 1:
+            product ^= 0b100011011 << (bit - 8)
+    return product
+
+
+def substituted(byte):
+    inverse = next((other for other in range(256) if times(byte, other) == 1), 0)
+    bits = [inverse >> i & 1 for i in range(8)]
+    out = 0
+    for i in range(8):
+        bit = bits[i] ^ bits[(i + 4) % 8] ^ bits[(i + 5) % 8] ^ bits[(i + 6) % 8] ^ bits[(i + 7) % 8]
+        out |= (bit ^ (0x63 >> i & 1)) << i
+    return out
+
+
+SBOX = [substituted(byte) for byte in range(256)]
+FORWARD = (2, 3, 1, 1)
+BACKWARD = (14, 11, 13, 9)
+
+
+def mixed(block, factors):
+    out = []
+    for column in range(4):
+        for row in range(4):
+            total = 0
+            for k in range(4):
+                total ^= times(factors[(k - row) % 4], block[4 * column + k])
+            out.append(total)
+    return out
+
+
+def shifted(block, way):
+    return [block[4 * ((column + way * row) % 4) + row] for column in range(4) for row in range(4)]
+
+
+def added(block, key):
+    return [a ^ b for a, b in zip(block, key, strict=True)]
+
+
+def round_keys(key):
+    """A list of round keys, each a list of 16 bytes."""
+    nk = len(key) // 4
+    words = [list(key[4 * i:4 * i + 4]) for i in range(nk)]
+    constants = (0, 0x01, 0x02, 0x04, 0x08, 0x10, 0x20, 0x40, 0x80, 0x1b, 0x36)
+    for i in range(nk, 4 * (nk + 7)):
+        word = list(words[i - 1])
+        if i % nk == 0:
+            word = [SBOX[word[1]] ^ constants[i // nk], SBOX[word[2]], SBOX[word[3]], SBOX[word[0]]]
+        elif nk > 6 and i % nk == 4:
+            word = [SBOX[byte] for byte in word]
+        words.append(added(words[i - nk], word))
+    return [sum(words[i:i + 4], []) for i in range(0, len(words), 4)]
+
+
+def way_back_keys(key):
+    forward = round_keys(key)
+    return [forward[-1]] + [mixed(one, BACKWARD) for one in forward[-2:0:-1]] + [forward[0]]
+
+
+def enciphered(key, block):
+    keys = round_keys(key)
+    state = added(block, keys[0])
+    for one in keys[1:-1]:
+        state = added(mixed(shifted([SBOX[byte] for byte in state], 1), FORWARD), one)
+    return added(shifted([SBOX[byte] for byte in state], 1), keys[-1])
+
+
+def deciphered(key, block):
+    """The plain inverse: each step of enciphered undone, the last first, with its own round keys."""
+    keys = round_keys(key)
+    state = [SBOX.index(byte) for byte in shifted(added(block, keys[-1]), -1)]
+    for one in keys[-2:0:-1]:
+        state = [SBOX.index(byte) for byte in shifted(mixed(added(state, one), BACKWARD), -1)]
+    return added(state, keys[0])
