@@ -1,6 +1,7 @@
 """The calls of the program, each by itself; each answers a list of whole numbers."""
 
 from sealedrowsdesk.cipher import decipher, encipher, expand_key, turn_keys
+from sealedrowsdesk.sealing import TAG_LENGTH, open_text, seal_text
 
 KEY_LENGTHS = (16, 24, 32)
 
@@ -41,3 +42,21 @@ def blocks(length, back, key, data):
     if length not in KEY_LENGTHS:
         return answer(-2, [])
     return answer(len(data) // 16, [run_blocks(back, key, data)])
+
+
+def seal(length, key, nonce, beside, text):
+    """How many bytes, and the text sealed with its tag behind it; -2 if the length is none of a key's."""
+    if length not in KEY_LENGTHS:
+        return answer(-2, [])
+    sealed = seal_text(key, nonce, beside, text)
+    return answer(len(sealed), [sealed])
+
+
+def open_sealed(length, key, nonce, beside, data):
+    """How many bytes, and the text that was sealed; -2 as in seal and without room for a tag, -5 if it isn't right."""
+    if length not in KEY_LENGTHS or len(data) < TAG_LENGTH:
+        return answer(-2, [])
+    text = open_text(key, nonce, beside, data)
+    if text is None:
+        return answer(-5, [])
+    return answer(len(text), [text])

@@ -1,4 +1,4 @@
-"""The examples of FIPS 197 and SP 800-38A, and bytes to try things with."""
+"""Published examples (FIPS 197, SP 800-38A, GCM), and bytes to try things with."""
 
 LENGTHS = (16, 24, 32)
 GREATEST = 18446744073709551615
@@ -90,3 +90,54 @@ FOUR_ENCIPHERED = {
         "b6ed21b99ca6f4f9f153e7b1beafed1d 23304b7a39f9f3ff067d8d8f9e24ecc7"
     ),
 }
+
+# "The Galois/Counter Mode of Operation", appendix B, the cases with a nonce of 12 bytes, by the key's length:
+# the key, the nonce, what goes with it, the text, the text sealed, the tag.
+GCM_KEY = "feffe9928665731c6d6a8f9467308308"
+GCM_NONCE = "cafebabefacedbaddecaf888"
+GCM_BESIDE = "feedfacedeadbeeffeedfacedeadbeefabaddad2"
+GCM_TEXT = (
+    "d9313225f88406e5a55909c5aff5269a86a7a9531534f7da2e4c303d8a318a72"
+    "1c3c0c95956809532fcf0e2449a6b525b16aedf5aa0de657ba637b391aafd255"
+)
+GCM_SEALED = {
+    16: "42831ec2217774244b7221b784d0d49ce3aa212f2c02a4e035c17e2329aca12e"
+        "21d514b25466931c7d8f6a5aac84aa051ba30b396a0aac973d58e091473f5985",
+    24: "3980ca0b3c00e841eb06fac4872a2757859e1ceaa6efd984628593b40ca1e19c"
+        "7d773d00c144c525ac619d18c84a3f4718e2448b2fe324d9ccda2710acade256",
+    32: "522dc1f099567d07f47f37a32a84427d643a8cdcbfe5c0c97598a2bd2555d1aa"
+        "8cb08e48590dbb3da7b08b1056828838c5f61e6393ba7a0abcc9f662898015ad",
+}
+# For each length: the tag of no text, one block sealed and its tag, the tag of GCM_TEXT alone, and the tag of its
+# first 60 bytes with GCM_BESIDE.
+GCM_TAGS = {
+    16: (
+        "58e2fccefa7e3061367f1d57a4e7455a", "0388dace60b6a392f328c2b971b2fe78", "ab6e47d42cec13bdf53a67b21257bddf",
+        "4d5c2af327cd64a62cf35abd2ba6fab4", "5bc94fbc3221a5db94fae95ae7121a47",
+    ),
+    24: (
+        "cd33b28ac773f74ba00ed1f312572435", "98e7247c07f0fe411c267e4384b0f600", "2ff58d80033927ab8ef4d4587514f0fb",
+        "9924a7c8587336bfb118024db8674a14", "2519498e80f1478f37ba55bd6d27618c",
+    ),
+    32: (
+        "530f8afbc74536b9a963b4f1c4cb738b", "cea7403d4d606b6e074ec5d3baf39d18", "d0d1c8a799996bf0265b98b5d48ab919",
+        "b094dac5d93471bdec1a502270e3cc6c", "76fc6ece0f4e1768cddf8853bb2d551b",
+    ),
+}
+
+
+def gcm_examples():
+    """(length, key, nonce, what goes with it, text, text sealed, tag), all but the length as bytes."""
+    examples = []
+    for length in LENGTHS:
+        of_nothing, block, of_block, of_text, of_all = GCM_TAGS[length]
+        key = (GCM_KEY * 2)[:2 * length]
+        sealed = GCM_SEALED[length]
+        for row in (
+            ("00" * length, "00" * 12, "", "", "", of_nothing),
+            ("00" * length, "00" * 12, "", "00" * 16, block, of_block),
+            (key, GCM_NONCE, "", GCM_TEXT, sealed, of_text),
+            (key, GCM_NONCE, GCM_BESIDE, GCM_TEXT[:120], sealed[:120], of_all),
+        ):
+            examples.append((length,) + tuple(hexed(part) for part in row))
+    return examples

@@ -7,10 +7,10 @@ import sys
 import unittest
 
 import samples
-from sealedrowsdesk.store import blocks, keys
+from sealedrowsdesk.store import blocks, keys, open_sealed, seal
 
 
-def tried_calls():
+def block_calls():
     calls = []
     for length in samples.LENGTHS:
         key = samples.spread(length, length)
@@ -23,6 +23,26 @@ def tried_calls():
         calls.append((blocks, (length, 0, [], [])))
         calls.append((blocks, (length, 1, [], samples.spread(32, 1))))
     return calls
+
+
+def seal_calls():
+    calls = []
+    nonce = samples.spread(12, 1)
+    for length, key, own_nonce, beside, text, sealed, tag in samples.gcm_examples():
+        calls.append((seal, (length, key, own_nonce, beside, text)))
+        calls.append((open_sealed, (length, key, own_nonce, beside, sealed + tag)))
+        calls.append((open_sealed, (length, key, nonce, beside, sealed + tag)))
+        calls.append((open_sealed, (length, key, nonce, beside, tag[1:])))
+    for size in (1, 17, 600):
+        calls.append((seal, (16, samples.spread(16, 2), nonce, samples.spread(size, 3), samples.spread(size, 4))))
+    for length in samples.WRONG_LENGTHS:
+        calls.append((seal, (length, [], nonce, [1], [2])))
+        calls.append((open_sealed, (length, [], nonce, [1], [2])))
+    return calls
+
+
+def tried_calls():
+    return block_calls() + seal_calls()
 
 
 class WatchedList(list):
@@ -97,6 +117,11 @@ class EachCallByItselfTest(unittest.TestCase):
         self.assertEqual(keys(length=16, key=key), keys(16, key))
         named = blocks(length=16, back=0, key=key, data=samples.PLAIN)
         self.assertEqual(named, [1, 1, 16] + samples.ENCIPHERED[16])
+        for length, key, nonce, beside, text, sealed, tag in samples.gcm_examples():
+            named = seal(length=length, key=key, nonce=nonce, beside=beside, text=text)
+            self.assertEqual(named[3:], sealed + tag)
+            named = open_sealed(length=length, key=key, nonce=nonce, beside=beside, data=sealed + tag)
+            self.assertEqual(named[3:], text)
 
 
 if __name__ == "__main__":

@@ -1,4 +1,4 @@
-"""AES written straight from the definitions of FIPS 197, slowly and without the program, to compare with."""
+"""AES (FIPS 197) and GCM (SP 800-38D) from their definitions, slowly and without the program, to compare with."""
 
 
 def times(a, b):
@@ -81,3 +81,43 @@ def deciphered(key, block):
     for one in keys[-2:0:-1]:
         state = [SBOX.index(byte) for byte in shifted(mixed(added(state, one), BACKWARD), -1)]
     return added(state, keys[0])
+
+
+def polynomial(block):
+    """The block as a polynomial over two values: bit i is the coefficient of x^i, the block's i-th bit."""
+    bits = "".join(format(byte, "08b") for byte in block)
+    return int(bits[::-1], 2)
+
+
+def block_times(a, b):
+    product = 0
+    for bit in range(128):
+        if b >> bit & 1:
+            product ^= a << bit
+    modulus = 1 << 128 | 1 << 7 | 1 << 2 | 1 << 1 | 1
+    for bit in range(254, 127, -1):
+        if product >> bit & 1:
+            product ^= modulus << bit - 128
+    return product
+
+
+def filled(data):
+    return data + [0] * (-len(data) % 16)
+
+
+def sealed(key, nonce, beside, text):
+    """The text sealed and the tag behind it, by the formulas of SP 800-38D, 7.1."""
+    first = nonce + [0, 0, 0, 1]
+    stream = []
+    for count in range(2, 2 + (len(text) + 15) // 16):
+        stream += enciphered(key, nonce + list(count.to_bytes(4, "big")))
+    done = [a ^ b for a, b in zip(text, stream)]
+    lengths = list((8 * len(beside)).to_bytes(8, "big")) + list((8 * len(text)).to_bytes(8, "big"))
+    held = filled(beside) + filled(done) + lengths
+    factor = polynomial(enciphered(key, [0] * 16))
+    total = 0
+    for at in range(0, len(held), 16):
+        total = block_times(total ^ polynomial(held[at:at + 16]), factor)
+    bits = format(total, "0128b")[::-1]
+    tag = [int(bits[at:at + 8], 2) for at in range(0, 128, 8)]
+    return done + added(tag, enciphered(key, first))
