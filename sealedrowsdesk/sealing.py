@@ -4,24 +4,12 @@ For the tag a block is one whole number, its first byte the highest: the standar
 """
 
 from sealedrowsdesk.cipher import encipher, expand_key
+from sealedrowsdesk.words import bytes_of, number_of
 
 TAG_LENGTH = 16
 
 # x^128 is x^7 + x^2 + x + 1 in the tag's field, whose lowest power is the highest bit.
 OVERFLOW = 0xe1000000000000000000000000000000
-
-
-def number_of(block):
-    """The whole number that the bytes are, the first the highest."""
-    number = 0
-    for byte in block:
-        number = (number << 8) | byte
-    return number
-
-
-def bytes_of(number, count):
-    """A whole number as so many bytes, the highest first."""
-    return [(number >> (8 * place)) & 255 for place in range(count - 1, -1, -1)]
 
 
 def multiply(block, factor):
@@ -45,6 +33,7 @@ class Sealing:
         self.stream = []
         self.beside_length = 0
         self.text_length = 0
+        self.text_begun = False
         self.tagged = 0
         self.waiting = []
 
@@ -83,7 +72,8 @@ class Sealing:
 
     def take_text(self, data):
         """The text goes on (what's sealed does, in an opening): what comes of these bytes."""
-        if self.text_length == 0:
+        if not self.text_begun:
+            self.text_begun = True
             self.fill_block()
         run = self.run_stream(data)
         self.hold(data if self.opening else run)

@@ -1,18 +1,23 @@
 """The calls of the program, each by itself; each answers a list of whole numbers."""
 
-from sealedrowsdesk.cipher import decipher, encipher, expand_key, turn_keys
+from sealedrowsdesk.cipher import KEY_LENGTHS, decipher, encipher, expand_key, turn_keys
+from sealedrowsdesk.pieces import Pieces
 from sealedrowsdesk.sealing import TAG_LENGTH, open_text, seal_text
+from sealedrowsdesk.sums import mark_of
 
-KEY_LENGTHS = (16, 24, 32)
 
-
-def answer(number, rows):
-    """A call's answer: its number as a row of its own, then the rows of bytes, each behind its length."""
-    numbers = [1, number]
+def lay_out(rows):
+    """The rows one behind another, each behind how many numbers it has."""
+    numbers = []
     for row in rows:
         numbers.append(len(row))
         numbers.extend(row)
     return numbers
+
+
+def answer(number, rows):
+    """The answer of a call by itself: its number as a row of its own, then the rows of bytes."""
+    return lay_out([[number]] + rows)
 
 
 def keys(length, key):
@@ -60,3 +65,15 @@ def open_sealed(length, key, nonce, beside, data):
     if text is None:
         return answer(-5, [])
     return answer(len(text), [text])
+
+
+def pieces(calls):
+    """A row for each of the calls on one object, in which nothing is under way at first: its number, what is told."""
+    under_way = Pieces()
+    return lay_out([under_way.take(call) for call in calls])
+
+
+def mark(key, data):
+    """32, and the mark of the data under the key."""
+    told = mark_of(key, data)
+    return answer(len(told), [told])

@@ -7,7 +7,8 @@ import sys
 import unittest
 
 import samples
-from sealedrowsdesk.store import blocks, keys, open_sealed, seal
+from rows import rows_of
+from sealedrowsdesk.store import blocks, keys, mark, open_sealed, pieces, seal
 
 
 def block_calls():
@@ -41,8 +42,30 @@ def seal_calls():
     return calls
 
 
+def sum_calls():
+    calls = [(mark, (samples.spread(size, 1), samples.spread(3 * size, 2))) for size in (0, 1, 64, 65, 200)]
+    for kind in (1, 2):
+        calls.append((pieces, ([[4, kind], [5] + samples.spread(70, 1), [6], [4, 0], [5], [5, 1], [6]],)))
+    return calls
+
+
+def piece_calls():
+    calls = [(pieces, ([],)), (pieces, ([[1, 2], [2, 3], [3], [5, 6], [6], [0, 15, 1], [4, 3]],))]
+    for length, key, nonce, beside, text, sealed, tag in samples.gcm_examples():
+        for back in (0, 1):
+            begin = [0, length, back] + key + nonce
+            ahead = [begin, [1] + beside[:7], [1] + beside[7:]]
+            calls.append((pieces, (ahead + [[2] + text[:5], [2] + text[5:], [1, 1], [3], [3]],)))
+            calls.append((pieces, (ahead + [[4, 2], begin, [3]],)))
+    return calls
+
+
+def calls_by_themselves():
+    return block_calls() + seal_calls() + [each for each in sum_calls() if each[0] == mark]
+
+
 def tried_calls():
-    return block_calls() + seal_calls()
+    return block_calls() + seal_calls() + sum_calls() + piece_calls()
 
 
 class WatchedList(list):
@@ -56,7 +79,7 @@ class WatchedList(list):
 
 
 def watched(value):
-    return WatchedList(value) if isinstance(value, list) else value
+    return WatchedList(map(watched, value)) if isinstance(value, list) else value
 
 
 class EachCallByItselfTest(unittest.TestCase):
@@ -91,17 +114,24 @@ class EachCallByItselfTest(unittest.TestCase):
         for call, values in tried_calls():
             answer = call(*values)
             self.assertIs(type(answer), list)
-            self.assertEqual({type(number) for number in answer}, {int})
+            self.assertTrue(all(type(number) is int for number in answer))
 
-    def test_all_bytes_told_are_from_0_to_255(self):
-        for call, values in tried_calls():
-            answer = call(*values)
-            at = 2
-            while at < len(answer):
-                row = answer[at + 1:at + 1 + answer[at]]
-                self.assertEqual(len(row), answer[at])
+    def test_calls_by_themselves_answer_a_number_and_rows_of_bytes(self):
+        for call, values in calls_by_themselves():
+            rows = rows_of(call(*values))
+            self.assertEqual(len(rows[0]), 1)
+            self.assertEqual(rows[0][0] < 0, len(rows) == 1)
+            for row in rows[1:]:
                 self.assertTrue(all(0 <= byte <= 255 for byte in row))
-                at += 1 + answer[at]
+
+    def test_pieces_answer_a_row_for_each_call(self):
+        for call, values in piece_calls() + sum_calls():
+            if call == pieces:
+                rows = rows_of(pieces(*values))
+                self.assertEqual(len(rows), len(values[0]))
+                for row in rows:
+                    self.assertEqual(len(row) - 1, max(row[0], 0))
+                    self.assertTrue(all(0 <= byte <= 255 for byte in row[1:]))
 
     def test_nothing_is_printed_or_imported(self):
         modules = set(sys.modules)
@@ -122,6 +152,8 @@ class EachCallByItselfTest(unittest.TestCase):
             self.assertEqual(named[3:], sealed + tag)
             named = open_sealed(length=length, key=key, nonce=nonce, beside=beside, data=sealed + tag)
             self.assertEqual(named[3:], text)
+        self.assertEqual(mark(key=[1], data=[2]), mark([1], [2]))
+        self.assertEqual(pieces(calls=[[4, 1], [6]]), pieces([[4, 1], [6]]))
 
 
 if __name__ == "__main__":

@@ -39,6 +39,7 @@ WORDS_OUT = re.compile(
     r"\b(type|typing|typing_extensions|enum|Enum|IntEnum|StrEnum|Flag|IntFlag|Generic|Protocol|ABC|ABCMeta|namedtuple"
     r"|NamedTuple|TypedDict|TYPE_CHECKING|abstractmethod)\b|dataclass|overload|contextmanager"
 )
+PYTHON_ATTRIBUTES = {word for kind in (str, int, list, dict, set, frozenset, bytes, tuple) for word in dir(kind)}
 
 
 def trees():
@@ -149,6 +150,39 @@ class LanguageTest(unittest.TestCase):
                 self.assertIn(node.func.attr, METHODS | own, (name, node.lineno))
         for name, node in nodes(ast.Attribute):
             self.assertNotIn(node.attr, NAMES_OUT | {"format", "format_map"}, (name, node.lineno))
+
+    def test_methods_and_values_of_objects_are_told_apart(self):
+        methods = set()
+        for name, node in nodes(ast.ClassDef):
+            inner = [part.name for part in node.body if isinstance(part, ast.FunctionDef)]
+            self.assertEqual(sorted(set(inner)), sorted(inner), (name, node.name))
+            for part in node.body:
+                self.assertIsInstance(part, (ast.FunctionDef, ast.Expr), (name, node.name))
+            methods.update(inner)
+        stored = {node.attr for name, node in nodes(ast.Attribute) if isinstance(node.ctx, ast.Store)}
+        self.assertEqual(methods & stored, set())
+        self.assertEqual((methods - METHODS - {"add", "discard", "__init__"}) & PYTHON_ATTRIBUTES, set())
+        self.assertEqual(stored & PYTHON_ATTRIBUTES, set())
+
+    def test_no_two_files_draw_from_one_another(self):
+        drawn = {path.stem: set() for path in FILES}
+        for name, node in nodes(ast.ImportFrom):
+            drawn[name.removesuffix(".py")].add(node.module.removeprefix("sealedrowsdesk."))
+        for _ in FILES:
+            for stem, froms in drawn.items():
+                drawn[stem] = froms.union(*[drawn[each] for each in froms])
+        for stem, froms in drawn.items():
+            self.assertNotIn(stem, froms)
+
+    def test_names_of_classes_and_imports_are_not_used_for_locals(self):
+        for name, tree in trees():
+            kept = {node.name for node in ast.walk(tree) if isinstance(node, ast.ClassDef)}
+            kept |= {alias.name for node in ast.walk(tree) if isinstance(node, ast.ImportFrom) for alias in node.names}
+            for node in ast.walk(tree):
+                if isinstance(node, ast.arg):
+                    self.assertNotIn(node.arg, kept, name)
+                if isinstance(node, ast.Name) and isinstance(node.ctx, ast.Store):
+                    self.assertNotIn(node.id, kept, name)
 
     def test_tops_hold_plain_values(self):
         for name, tree in trees():
