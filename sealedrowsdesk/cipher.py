@@ -3,6 +3,8 @@
 A state is 16 bytes, column by column, as FIPS 197 lays them out.
 """
 
+from sealedrowsdesk.field import double
+
 KEY_LENGTHS = (16, 24, 32)
 
 SUBSTITUTE = (
@@ -46,13 +48,6 @@ SUBSTITUTE_BACK = (
 # From which byte of the state each one comes when the rows are shifted.
 SHIFT = (0, 5, 10, 15, 4, 9, 14, 3, 8, 13, 2, 7, 12, 1, 6, 11)
 SHIFT_BACK = (0, 13, 10, 7, 4, 1, 14, 11, 8, 5, 2, 15, 12, 9, 6, 3)
-
-
-def double(byte):
-    """The byte times x in the cipher's field."""
-    if byte < 0x80:
-        return byte << 1
-    return (byte << 1) ^ 0x11b
 
 
 def mix(state):

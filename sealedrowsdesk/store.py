@@ -3,6 +3,7 @@
 from sealedrowsdesk.cipher import KEY_LENGTHS, decipher, encipher, expand_key, turn_keys
 from sealedrowsdesk.pieces import Pieces
 from sealedrowsdesk.sealing import TAG_LENGTH, open_text, seal_text
+from sealedrowsdesk.shares import can_share, chain, cut, make_shares, tell_data
 from sealedrowsdesk.sums import mark_of
 
 
@@ -77,3 +78,22 @@ def mark(key, data):
     """32, and the mark of the data under the key."""
     told = mark_of(key, data)
     return answer(len(told), [told])
+
+
+def make(k, m, size, data):
+    """m, and the m shares more of k pieces of data; -2 if there can't be so many."""
+    if not can_share(k, m):
+        return answer(-2, [])
+    made = make_shares(cut(data, k, size), m)
+    return answer(m, [chain(made[k:])])
+
+
+def mend(k, m, size, there, shares):
+    """How many shares weren't there, and all of them anew; -2 as in make or for a bit too many, -5 for too few."""
+    if not can_share(k, m) or there >> (k + m) != 0:
+        return answer(-2, [])
+    places = [place for place in range(k + m) if (there >> place) & 1]
+    if len(places) < k:
+        return answer(-5, [])
+    data = tell_data(k, places[:k], cut(shares, k + m, size))
+    return answer(k + m - len(places), [chain(make_shares(data, m))])

@@ -8,7 +8,7 @@ import unittest
 
 import samples
 from rows import rows_of
-from sealedrowsdesk.store import blocks, keys, mark, open_sealed, pieces, seal
+from sealedrowsdesk.store import blocks, keys, make, mark, mend, open_sealed, pieces, seal
 
 
 def block_calls():
@@ -60,12 +60,22 @@ def piece_calls():
     return calls
 
 
+def share_calls():
+    calls = [(make, (0, 1, 5, [])), (mend, (33, 1, 5, 1, [])), (mend, (1, 1, 1, 4, [1, 2])), (mend, (1, 1, 1, 0, [1, 2]))]
+    for k, m in ((1, 0), (1, 3), (3, 2), (8, 4), (16, 16)):
+        for size in (0, 1, 7):
+            calls.append((make, (k, m, size, samples.spread(k * size, k))))
+            for there in ((1 << k) - 1, (1 << (k + m)) - 1, ((1 << k) - 1) << m):
+                calls.append((mend, (k, m, size, there, samples.spread((k + m) * size, m))))
+    return calls
+
+
 def calls_by_themselves():
-    return block_calls() + seal_calls() + [each for each in sum_calls() if each[0] == mark]
+    return block_calls() + seal_calls() + share_calls() + [each for each in sum_calls() if each[0] == mark]
 
 
 def tried_calls():
-    return block_calls() + seal_calls() + sum_calls() + piece_calls()
+    return block_calls() + seal_calls() + share_calls() + sum_calls() + piece_calls()
 
 
 class WatchedList(list):
@@ -154,6 +164,8 @@ class EachCallByItselfTest(unittest.TestCase):
             self.assertEqual(named[3:], text)
         self.assertEqual(mark(key=[1], data=[2]), mark([1], [2]))
         self.assertEqual(pieces(calls=[[4, 1], [6]]), pieces([[4, 1], [6]]))
+        self.assertEqual(make(k=2, m=1, size=1, data=[1, 0]), [1, 1, 1, 0x8d])
+        self.assertEqual(mend(k=2, m=1, size=1, there=6, shares=[9, 0, 0x8d]), [1, 1, 3, 1, 0, 0x8d])
 
 
 if __name__ == "__main__":

@@ -1,4 +1,4 @@
-"""AES (FIPS 197) and GCM (SP 800-38D) from their definitions, slowly and without the program, to compare with."""
+"""AES (FIPS 197), GCM (SP 800-38D) and shares from their definitions, slowly, without the program, to compare with."""
 
 
 def times(a, b):
@@ -121,3 +121,22 @@ def sealed(key, nonce, beside, text):
     bits = format(total, "0128b")[::-1]
     tag = [int(bits[at:at + 8], 2) for at in range(0, 128, 8)]
     return done + added(tag, enciphered(key, first))
+
+
+def inverted(byte):
+    return next(other for other in range(256) if times(byte, other) == 1)
+
+
+INVERSES = [0] + [inverted(byte) for byte in range(1, 256)]
+
+
+def more_shares(k, m, size, data):
+    """The m shares behind k pieces of data, one behind another, byte by byte."""
+    out = []
+    for i in range(m):
+        for at in range(size):
+            total = 0
+            for j in range(k):
+                total ^= times(data[j * size + at], INVERSES[k + i ^ j])
+            out.append(total)
+    return out
