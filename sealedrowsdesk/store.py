@@ -1,6 +1,7 @@
-"""The calls of the program, each by itself; each answers a list of whole numbers."""
+"""The calls of the program; each answers a list of whole numbers and keeps nothing."""
 
 from sealedrowsdesk.cipher import KEY_LENGTHS, decipher, encipher, expand_key, turn_keys
+from sealedrowsdesk.desk import Desk
 from sealedrowsdesk.pieces import Pieces
 from sealedrowsdesk.sealing import TAG_LENGTH, open_text, seal_text
 from sealedrowsdesk.shares import can_share, chain, cut, make_shares, tell_data
@@ -97,3 +98,10 @@ def mend(k, m, size, there, shares):
         return answer(-5, [])
     data = tell_data(k, places[:k], cut(shares, k + m, size))
     return answer(k + m - len(places), [chain(make_shares(data, m))])
+
+
+def store(rows, own, calls):
+    """A row for each of the calls on one store, whose disk is all 0 at first; then the disk's sum as one row more."""
+    desk = Desk(rows, own)
+    told = [desk.take(call) for call in calls]
+    return lay_out(told + [[desk.disk.weighed()]])

@@ -1,8 +1,8 @@
-"""Whole numbers as bytes, the highest byte first, and back."""
+"""Whole numbers as bytes and back: the highest byte first, or the lowest."""
 
 
 def number_of(data):
-    """The whole number that the bytes are."""
+    """The whole number that the bytes are, the highest first."""
     number = 0
     for byte in data:
         number = (number << 8) | byte
@@ -10,5 +10,15 @@ def number_of(data):
 
 
 def bytes_of(number, count):
-    """A whole number's so many lowest bytes."""
+    """So many bytes of a whole number, the highest first."""
     return [(number >> (8 * place)) & 255 for place in range(count - 1, -1, -1)]
+
+
+def low_first(number, count):
+    """So many bytes of a whole number, the lowest first."""
+    return [(number >> (8 * place)) & 255 for place in range(count)]
+
+
+def number_of_low_first(data):
+    """The whole number that the bytes are, the lowest first."""
+    return number_of(data[::-1])

@@ -7,8 +7,9 @@ import sys
 import unittest
 
 import samples
+import store_calls
 from rows import rows_of
-from sealedrowsdesk.store import blocks, keys, make, mark, mend, open_sealed, pieces, seal
+from sealedrowsdesk.store import blocks, keys, make, mark, mend, open_sealed, pieces, seal, store
 
 
 def block_calls():
@@ -70,12 +71,26 @@ def share_calls():
     return calls
 
 
+def line_calls():
+    name = store_calls.NAME
+    text = samples.spread(30, 1)
+    calls = [store_calls.put(24, 1, name, text), store_calls.get(30, name), store_calls.harm(100, 1)]
+    calls += store_calls.spoil(0, (2, 5)) + [store_calls.copy(0, 1), store_calls.look(0), store_calls.MEND]
+    calls += [store_calls.get(29, name), store_calls.get(3401, name), store_calls.put(24, 1, name, text)]
+    more = [store_calls.put(17, 1, name, []), store_calls.look(5), store_calls.clear(5), store_calls.drop(name)]
+    own = store_calls.OWN
+    return [
+        (store, (1, own, [])), (store, (1, own, calls + more + [store_calls.clear(0)])), (store, (3, own, calls)),
+        (store, (2, own, more)),
+    ]
+
+
 def calls_by_themselves():
     return block_calls() + seal_calls() + share_calls() + [each for each in sum_calls() if each[0] == mark]
 
 
 def tried_calls():
-    return block_calls() + seal_calls() + share_calls() + sum_calls() + piece_calls()
+    return block_calls() + seal_calls() + share_calls() + sum_calls() + piece_calls() + line_calls()
 
 
 class WatchedList(list):
@@ -143,6 +158,15 @@ class EachCallByItselfTest(unittest.TestCase):
                     self.assertEqual(len(row) - 1, max(row[0], 0))
                     self.assertTrue(all(0 <= byte <= 255 for byte in row[1:]))
 
+    def test_store_answers_a_row_for_each_call_and_one_more(self):
+        for call, values in line_calls():
+            rows = rows_of(store(*values))
+            self.assertEqual(len(rows), len(values[2]) + 1)
+            self.assertEqual(len(rows[-1]), 1)
+            self.assertTrue(0 <= rows[-1][0] < 2 ** 32)
+            for row in rows:
+                self.assertTrue(len(row) == 1 or row[0] >= 0)
+
     def test_nothing_is_printed_or_imported(self):
         modules = set(sys.modules)
         out = io.StringIO()
@@ -164,6 +188,7 @@ class EachCallByItselfTest(unittest.TestCase):
             self.assertEqual(named[3:], text)
         self.assertEqual(mark(key=[1], data=[2]), mark([1], [2]))
         self.assertEqual(pieces(calls=[[4, 1], [6]]), pieces([[4, 1], [6]]))
+        self.assertEqual(store(rows=1, own=store_calls.OWN, calls=[[5, 0]]), [1, 0, 1, 0])
         self.assertEqual(make(k=2, m=1, size=1, data=[1, 0]), [1, 1, 1, 0x8d])
         self.assertEqual(mend(k=2, m=1, size=1, there=6, shares=[9, 0, 0x8d]), [1, 1, 3, 1, 0, 0x8d])
 

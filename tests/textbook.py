@@ -1,6 +1,9 @@
 """AES (FIPS 197), GCM (SP 800-38D) and shares from their definitions, slowly, without the program, to compare with."""
 
+import functools
 
+
+@functools.lru_cache(None)
 def times(a, b):
     product = 0
     for bit in range(8):
@@ -48,6 +51,11 @@ def added(block, key):
 
 def round_keys(key):
     """A list of round keys, each a list of 16 bytes."""
+    return round_keys_once(tuple(key))
+
+
+@functools.lru_cache(100)
+def round_keys_once(key):
     nk = len(key) // 4
     words = [list(key[4 * i:4 * i + 4]) for i in range(nk)]
     constants = (0, 0x01, 0x02, 0x04, 0x08, 0x10, 0x20, 0x40, 0x80, 0x1b, 0x36)
@@ -67,6 +75,11 @@ def way_back_keys(key):
 
 
 def enciphered(key, block):
+    return list(enciphered_once(tuple(key), tuple(block)))
+
+
+@functools.lru_cache(200000)
+def enciphered_once(key, block):
     keys = round_keys(key)
     state = added(block, keys[0])
     for one in keys[1:-1]:
@@ -123,6 +136,13 @@ def sealed(key, nonce, beside, text):
     return done + added(tag, enciphered(key, first))
 
 
+def opened(key, nonce, beside, data):
+    """The text of what was sealed, or None if its tag isn't right."""
+    # Sealing what's sealed undoes the stream; only then the tag can be compared.
+    text = sealed(key, nonce, beside, data[:-16])[:-16]
+    return text if sealed(key, nonce, beside, text) == data else None
+
+
 def inverted(byte):
     return next(other for other in range(256) if times(byte, other) == 1)
 
@@ -140,3 +160,23 @@ def more_shares(k, m, size, data):
                 total ^= times(data[j * size + at], INVERSES[k + i ^ j])
             out.append(total)
     return out
+
+
+def told_data(k, shares):
+    """The data, from a dict of k shares by their places, by elimination with a search for each pivot."""
+    rows = []
+    for place, share in shares.items():
+        if place < k:
+            rows.append([int(j == place) for j in range(k)] + list(share))
+        else:
+            rows.append([INVERSES[place ^ j] for j in range(k)] + list(share))
+    for column in range(k):
+        pivot = next(at for at in range(column, k) if rows[at][column])
+        rows[column], rows[pivot] = rows[pivot], rows[column]
+        scale = INVERSES[rows[column][column]]
+        rows[column] = [times(scale, byte) for byte in rows[column]]
+        for at in range(k):
+            factor = rows[at][column]
+            if at != column and factor:
+                rows[at] = [byte ^ times(factor, other) for byte, other in zip(rows[at], rows[column])]
+    return [byte for row in rows for byte in row[k:]]
