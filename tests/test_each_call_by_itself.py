@@ -62,7 +62,8 @@ def piece_calls():
 
 
 def share_calls():
-    calls = [(make, (0, 1, 5, [])), (mend, (33, 1, 5, 1, [])), (mend, (1, 1, 1, 4, [1, 2])), (mend, (1, 1, 1, 0, [1, 2]))]
+    calls = [(make, (0, 1, 5, [])), (mend, (33, 1, 5, 1, []))]
+    calls += [(mend, (1, 1, 1, there, [1, 2])) for there in (4, 0)]
     for k, m in ((1, 0), (1, 3), (3, 2), (8, 4), (16, 16)):
         for size in (0, 1, 7):
             calls.append((make, (k, m, size, samples.spread(k * size, k))))

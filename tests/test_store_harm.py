@@ -114,8 +114,8 @@ class RightTest(StoreTest):
         made = disk_after(2, ahead)
         for offset in (0, 1, 16, 31):
             for change in (1, 128, 255):
-                self.assertEqual(self.told(2, ahead + [harm(at(1, 0, offset), made[at(1, 0, offset)] ^ change), look(1)])[-1],
-                                 [0])
+                place = at(1, 0, offset)
+                self.assertEqual(self.told(2, ahead + [harm(place, made[place] ^ change), look(1)])[-1], [0])
 
     def test_a_sector_must_be_in_its_place(self):
         for source, place in ((0, 1), (5, 0), (11, 10), (3, 4)):
